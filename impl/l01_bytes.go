@@ -115,9 +115,11 @@ func Sum(text string) int64 {
 
 // NameRight: see chapter 2.
 func NameRight(t string) bool {
-	if len(t) == 0 || len(t) > maxNameBytes {
-		return false
-	}
+	return len(t) <= maxNameBytes && nameLike(t)
+}
+
+// nameLike: is it a name, but for how long it is?
+func nameLike(t string) bool {
 	// A byte from 128 on is never a rune below 128, so that runes tell as much as bytes here.
 	for i, c := range t {
 		small := c >= 'a' && c <= 'z'
@@ -126,7 +128,7 @@ func NameRight(t string) bool {
 			return false
 		}
 	}
-	return true
+	return t != ""
 }
 
 // foldSign puts the sign into the lowest bit, so that numbers near 0 stay short on both sides.
