@@ -88,9 +88,9 @@ func moduleRead(text string) impl.ModuleOut {
 	return impl.ModuleOut{Module: m}
 }
 
-// longestModule has bytes of which no right module has more: one end, and else the widest pushes.
+// longestModule has bytes of which no right module has more: one reject, and else the widest pushes.
 func longestModule() impl.Module {
-	m := coded("end")
+	m := coded("reject 99")
 	m.Code = append(m.Code, slices.Repeat(insIn("push -1000000000000"), 1999)...)
 	return m
 }
@@ -297,7 +297,7 @@ func TestModuleReadBySize(t *testing.T) {
 		}
 	}
 	text := moduleBytes(longestModule())
-	if len(text) != 6+3+1999*8 {
+	if len(text) != 6+4+1999*8 {
 		t.Errorf("the longest module has %d bytes", len(text))
 	}
 	checkModuleRead(t, "a longest text", text+strings.Repeat("\x00", impl.MaxBytes-len(text)), refusedAt(impl.ErrSyntax, len(text)))
