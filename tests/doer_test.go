@@ -46,16 +46,6 @@ func (d *doer) spend(gas int64) {
 	d.endIf(d.spent > d.e.Gas, impl.ErrGas)
 }
 
-// letOf: the place of the KLet whose variable is named there, or -1, if it is a Param.
-func (d *doer) letOf(at int) int {
-	for _, place := range d.lets(at) {
-		if d.nodes[place].Text == d.nodes[at].Text {
-			return place
-		}
-	}
-	return -1
-}
-
 // known: the value of an expression that has no kids.
 func (d *doer) known(at int) int64 {
 	n := d.nodes[at]

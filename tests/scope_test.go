@@ -74,6 +74,16 @@ func (s *scope) lets(at int) []int {
 	return list
 }
 
+// letOf: the place of the KLet whose variable is named there, or -1, if it is a Param.
+func (s *scope) letOf(at int) int {
+	for _, place := range s.lets(at) {
+		if s.nodes[place].Text == s.nodes[at].Text {
+			return place
+		}
+	}
+	return -1
+}
+
 // variable: the type of the one of that name that is seen at a place, or 0.
 func (s *scope) variable(at int, name string) int64 {
 	for _, place := range s.lets(at) {
